@@ -14,19 +14,26 @@ func isEvent(e api.Event, tests map[int]func(api.Event) bool) bool {
 		isIn(e.Bytes, 0, api.MaxBytes)
 }
 
+// linkedKind is a kind of events with the greatest Link and N that it allows; the other fields on which kinds have an influence are 0.
+type linkedKind struct{ kind, mostLink, mostN int }
+
+// linkedKinds are all kinds of events but EBegin.
+var linkedKinds = [...]linkedKind{
+	{api.EEnd, 0, 0},
+	{api.ESend, api.MaxLink, 0},
+	{api.EReceive, api.MaxLink, 0},
+	{api.EAcquire, api.MaxLink, api.MaxLink},
+	{api.ERelease, api.MaxLink, api.MaxLink},
+	{api.ECancel, api.MaxSpans - 1, 0},
+}
+
 // fieldTests returns, for each kind of events, the test of the fields on which the kind has an influence.
 func fieldTests() map[int]func(api.Event) bool {
-	link := linked(api.MaxLink, 0)
-	grant := linked(api.MaxLink, api.MaxLink)
-	return map[int]func(api.Event) bool{
-		api.EBegin:   isBegin,
-		api.EEnd:     linked(0, 0),
-		api.ESend:    link,
-		api.EReceive: link,
-		api.EAcquire: grant,
-		api.ERelease: grant,
-		api.ECancel:  linked(api.MaxSpans-1, 0),
+	tests := map[int]func(api.Event) bool{api.EBegin: isBegin}
+	for _, k := range linkedKinds {
+		tests[k.kind] = linked(k.mostLink, k.mostN)
 	}
+	return tests
 }
 
 // linked returns a test whether Link and N are at most so great, and the other fields 0.

@@ -7,54 +7,58 @@ import (
 	"latecomer/api"
 )
 
-// limits are the least and the most that the time of an event may be behind that of another one: -NoBound and NoBound if there is no such limit.
-type limits struct{ least, most int }
+// interval is the least and the greatest difference of two times: NoBound if there is no greatest one.
+type interval struct{ least, most int }
 
-// rule returns the limits for the time of b, minus that of a.
-type rule func(a, b api.Event) limits
+// rule says of those pairs of events to which it applies how far the time of b is behind that of a.
+type rule struct {
+	applies func(a, b api.Event) bool
+	admits  func(a, b api.Event) interval
+}
 
 // rules returns the rules for the events of a fleet: the one about the clocks comes first.
 func rules(f api.Fleet) []rule {
 	return []rule{
-		func(a, b api.Event) limits {
-			if a.Agent != b.Agent || a.Seq >= b.Seq {
-				return anything()
-			}
-			return elapsed(b.At-a.At, f.Drift[a.Agent])
-		},
-		func(a, b api.Event) limits {
-			return atLeast(f.Latency, a.Kind == api.ESend && b.Kind == api.EReceive && a.Link == b.Link)
-		},
-		func(a, b api.Event) limits {
-			isHeld := a.Kind == api.EAcquire && b.Kind == api.ERelease && a.N == b.N
-			isHandedOver := a.Kind == api.ERelease && b.Kind == api.EAcquire && a.N+1 == b.N
-			return atLeast(0, a.Link == b.Link && (isHeld || isHandedOver))
-		},
-		func(a, b api.Event) limits {
-			return atLeast(0, a.Kind == api.EBegin && b.Kind == api.EBegin && a.Span == b.Link)
-		},
+		{isLater, func(a, b api.Event) interval { return elapsed(b.At-a.At, f.Drift[a.Agent]) }},
+		{isMessage, atLeast(f.Latency)},
+		{isGrant, atLeast(0)},
+		{isChild, atLeast(0)},
 	}
 }
 
-// elapsed returns the limits of the time in which a clock with this drift goes on by so many ticks. Both readings are rounded down, so it has gone on by less than a tick more or less.
-func elapsed(ticks, drift int) limits {
-	d := limits{0, (ticks+1)*(api.Million+drift) - 1}
+// isLater reports whether the agent that reported a has reported b behind it.
+func isLater(a, b api.Event) bool { return a.Agent == b.Agent && a.Seq < b.Seq }
+
+// isMessage reports whether a sends the message that b receives.
+func isMessage(a, b api.Event) bool {
+	return a.Kind == api.ESend && b.Kind == api.EReceive && a.Link == b.Link
+}
+
+// isGrant reports whether b ends the grant that a begins, or begins the next grant behind the one that a ends.
+func isGrant(a, b api.Event) bool {
+	isHeld := a.Kind == api.EAcquire && b.Kind == api.ERelease && a.N == b.N
+	isHandedOver := a.Kind == api.ERelease && b.Kind == api.EAcquire && a.N+1 == b.N
+	return a.Link == b.Link && (isHeld || isHandedOver)
+}
+
+// isChild reports whether b begins a child of the span that a begins.
+func isChild(a, b api.Event) bool {
+	return a.Kind == api.EBegin && b.Kind == api.EBegin && a.Span == b.Link
+}
+
+// elapsed returns in how much time a clock with this drift goes on by so many ticks. Both readings are rounded down, so it has gone on by less than a tick more or less.
+func elapsed(ticks, drift int) interval {
+	d := interval{0, (ticks+1)*(api.Million+drift) - 1}
 	if ticks >= 1 {
 		d.least = (ticks-1)*(api.Million-drift) + 1
 	}
 	return d
 }
 
-// atLeast returns the limits of a difference that is at least so great, if the rule applies.
-func atLeast(least int, applies bool) limits {
-	if !applies {
-		return anything()
-	}
-	return limits{least, api.NoBound}
+// atLeast returns what a rule admits that has a least difference only.
+func atLeast(least int) func(a, b api.Event) interval {
+	return func(a, b api.Event) interval { return interval{least, api.NoBound} }
 }
-
-// anything returns the limits of a difference about which a rule says nothing.
-func anything() limits { return limits{-api.NoBound, api.NoBound} }
 
 // pairs yields the pairs of different indices of n events, in their order.
 func pairs(n int) iter.Seq2[int, int] {
@@ -74,11 +78,12 @@ func constraints(l []api.Event, rules []rule) []api.Constraint {
 	var all []api.Constraint
 	for i, j := range pairs(len(l)) {
 		agents := 1<<l[i].Agent | 1<<l[j].Agent
-		for _, limitsOf := range rules {
-			d := limitsOf(l[i], l[j])
-			if d.least != -api.NoBound {
-				all = append(all, api.Constraint{From: j, To: i, Most: -d.least, Agents: agents})
+		for _, r := range rules {
+			if !r.applies(l[i], l[j]) {
+				continue
 			}
+			d := r.admits(l[i], l[j])
+			all = append(all, api.Constraint{From: j, To: i, Most: -d.least, Agents: agents})
 			if d.most != api.NoBound {
 				all = append(all, api.Constraint{From: i, To: j, Most: d.most, Agents: agents})
 			}
